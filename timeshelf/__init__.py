@@ -1,0 +1,1 @@
+"""Timeshelf: an archive of texts that change, asked for all times at once."""
