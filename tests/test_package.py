@@ -37,6 +37,19 @@ INTERFACE = {
         "cut": ["word", "endings"],
         "document_of": ["text", "endings"],
     },
+    "tokens": {"tokens": ["text"]},
+    "questions": {
+        "read_question": ["text"],
+        "begins": ["tokens"],
+        "size": ["question"],
+        "patterns_of": ["question"],
+    },
+    "writing": {"write_question": ["question"]},
+    "matching": {
+        "fits": ["word", "pattern"],
+        "standings": ["document", "row"],
+        "matches": ["document", "question"],
+    },
 }
 
 

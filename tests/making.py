@@ -1,0 +1,49 @@
+"""Questions and documents that are made at random, for the tests."""
+
+WORDS = ["a", "b", "ab", "ba", "abc", "0", "7", "12", "abcdefghij12"]
+
+
+def made_pattern(chance):
+    return (chance.choice(["word", "start"]), chance.choice(WORDS))
+
+
+def made_row(chance, most=6):
+    patterns = tuple(made_pattern(chance) for _ in range(chance.randrange(1, most + 1)))
+    return ("row", patterns, chance.choice([0, 0, 1, 2, 9]))
+
+
+def made_question(chance, left):
+    """A question of a size of at most `left`."""
+    kinds = ["row", "row", "all"] + ["not"] * (left > 1) + ["and", "or"] * 2 * (left > 2)
+    kind = chance.choice(kinds)
+    if kind == "row":
+        return made_row(chance)
+    if kind == "all":
+        return ("all",)
+    if kind == "not":
+        return ("not", made_question(chance, left - 1))
+    parts = []
+    left -= 1
+    while left > 0 and (len(parts) < 2 or chance.random() < 0.5):
+        part = made_question(chance, left - (len(parts) == 0))
+        parts.append(part)
+        left -= size_plainly(part)
+    return (kind, tuple(parts))
+
+
+def size_plainly(question):
+    if question[0] in ("row", "all"):
+        return 1
+    if question[0] == "not":
+        return 1 + size_plainly(question[1])
+    return 1 + sum(size_plainly(part) for part in question[1])
+
+
+def depth_of_brackets(text):
+    """How many brackets are open at once in a text, at the most."""
+    depth = 0
+    most = 0
+    for character in text:
+        depth += (character == "(") - (character == ")")
+        most = max(most, depth)
+    return most
