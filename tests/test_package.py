@@ -50,6 +50,19 @@ INTERFACE = {
         "standings": ["document", "row"],
         "matches": ["document", "question"],
     },
+    "evidence": {
+        "evidence_for": ["document", "question"],
+        "check_evidence": ["document", "question", "evidence"],
+    },
+    "alike": {
+        "is_simple": ["question"],
+        "candidates": ["one", "other"],
+        "least_witness": ["one", "other", "most"],
+    },
+    "changes": {
+        "check_change": ["change"],
+        "counted": ["changes"],
+    },
 }
 
 

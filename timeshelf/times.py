@@ -1,6 +1,11 @@
 """Timelines: sets of times that are told by their change points."""
 
 
+def is_number(value):
+    """True if the value is an integer; True and False are none."""
+    return isinstance(value, int) and not isinstance(value, bool)
+
+
 def points_until(timeline, time):
     """The number of change points that are at most this time."""
     low = 0

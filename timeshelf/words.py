@@ -1,6 +1,7 @@
 """Words: a text is read as a document, and its words are cut by endings."""
 
-SMALL = "abcdefghijklmnopqrstuvwxyz0123456789"
+# In the order in which they stand in strings that are sorted.
+SMALL = "0123456789abcdefghijklmnopqrstuvwxyz"
 LONGEST = 12
 
 
@@ -22,3 +23,10 @@ def cut(word, endings):
 def document_of(text, endings):
     """The document of a text: its words, each of them cut."""
     return tuple([cut(word, endings) for word in words_of(text)])
+
+
+def is_small(value, most):
+    """True if the value is a string of 1 to `most` small letters and digits."""
+    if not isinstance(value, str) or not 1 <= len(value) <= most:
+        return False
+    return all(letter in SMALL for letter in value)
