@@ -1,6 +1,12 @@
-"""Questions and documents that are made at random, for the tests."""
+"""Questions and documents that are made at random, and some that are not, for the tests."""
+
+from timeshelf.questions import read_question
 
 WORDS = ["a", "b", "ab", "ba", "abc", "0", "7", "12", "abcdefghij12"]
+
+# Each kind of question, over the words above.
+QUESTIONS = [read_question(text) for text in (
+    "@", "-@", "a", "b*", "-a", "--ab", '"a b"', "<2 a b*>", "a b", "a -b", "a | 7", "a | -b", "-(a | b)", "-(a -b) 0")]
 
 
 def made_pattern(chance):
@@ -47,3 +53,22 @@ def depth_of_brackets(text):
         depth += (character == "(") - (character == ")")
         most = max(most, depth)
     return most
+
+
+def made_text(chance, most=6):
+    """A text, or None."""
+    if chance.random() < 0.2:
+        return None
+    return chance.choice([" ", ", ", "\n"]).join(chance.choice(WORDS) for _ in range(chance.randrange(most + 1)))
+
+
+def made_changes(chance, many, keys=("a", "b", "10", "9"), last=12):
+    """A list of changes of few keys and times, so that many of them meet."""
+    return [(chance.randrange(last), chance.choice(keys), made_text(chance)) for _ in range(many)]
+
+
+def after_telling(holder, changes):
+    """The shelf, or the index, when it has been told these changes."""
+    for time, key, text in changes:
+        holder.tell(time, key, text)
+    return holder

@@ -63,6 +63,43 @@ INTERFACE = {
         "check_change": ["change"],
         "counted": ["changes"],
     },
+    "postings": {
+        "places_of": ["history", "key"],
+        "postings_of": ["history", "key"],
+    },
+    "answering": {
+        "needs_all": ["question"],
+        "answer_by": ["question", "places", "postings"],
+    },
+}
+
+CLASSES = {
+    "shelves": {
+        "Shelf": {
+            "__init__": ["endings"],
+            "tell": ["time", "key", "text"],
+            "endings": [],
+            "changes": [],
+            "known_keys": [],
+            "history": ["key"],
+            "document": ["key", "time"],
+            "plain_answer": ["question"],
+        },
+    },
+    "index": {
+        "Index": {
+            "__init__": ["endings"],
+            "tell": ["time", "key", "text"],
+            "work": [],
+            "shelf": [],
+            "versions": [],
+            "words": [],
+            "postings": ["word"],
+            "words_for": ["pattern"],
+            "answer": ["question"],
+            "read": ["question"],
+        },
+    },
 }
 
 
@@ -109,6 +146,17 @@ class Interface(unittest.TestCase):
                 found = getattr(module, function)
                 self.assertEqual(found.__module__, "timeshelf." + name)
                 self.assertEqual(list(inspect.signature(found).parameters), arguments, function)
+
+    def test_classes_and_their_own_methods(self):
+        for name, classes in CLASSES.items():
+            module = importlib.import_module("timeshelf." + name)
+            for kind, methods in classes.items():
+                found = getattr(module, kind)
+                self.assertEqual(found.__module__, "timeshelf." + name)
+                for method, arguments in methods.items():
+                    # Looked up in the class itself: a method of a base class is not enough.
+                    parameters = list(inspect.signature(vars(found)[method]).parameters)
+                    self.assertEqual(parameters, ["self"] + arguments, (kind, method))
 
     def test_examples_of_the_readme(self):
         results = doctest.testfile(str(ROOT / "README.md"), module_relative=False)

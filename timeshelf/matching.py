@@ -15,16 +15,26 @@ def fits(word, pattern):
 
 def matches(document, question):
     """True if the document matches the question."""
+    return holds(question, lambda row: has_standing(document, row))
+
+
+def holds(question, is_met):
+    """True if the question matches where its rows are met of which the function says so."""
     kind = question[0]
     if kind == "row":
-        return any(begins_standing(document, question, (place,)) for place in range(len(document)))
+        return is_met(question)
     if kind == "all":
         return True
     if kind == "not":
-        return not matches(document, question[1])
+        return not holds(question[1], is_met)
     if kind == "and":
-        return all(matches(document, part) for part in question[1])
-    return any(matches(document, part) for part in question[1])
+        return all(holds(part, is_met) for part in question[1])
+    return any(holds(part, is_met) for part in question[1])
+
+
+def has_standing(document, row):
+    """True if the row stands somewhere in the document."""
+    return any(begins_standing(document, row, (place,)) for place in range(len(document)))
 
 
 def standings(document, row):

@@ -69,3 +69,11 @@ def length_before(timeline, time):
             last = time if end is None else min(end, time)
             total += last - start
     return total
+
+
+def timelines_of(places):
+    """The timelines of the spans of places (key, start, end), those of each key together: an answer."""
+    found = {}
+    for key, start, end in places:
+        found[key] = join(found.get(key, ()), of_span(start, end))
+    return found
