@@ -1,5 +1,6 @@
 """Questions and documents that are made at random, and some that are not, for the tests."""
 
+from timeshelf.merging import Copy
 from timeshelf.questions import read_question
 
 WORDS = ["a", "b", "ab", "ba", "abc", "0", "7", "12", "abcdefghij12"]
@@ -7,6 +8,13 @@ WORDS = ["a", "b", "ab", "ba", "abc", "0", "7", "12", "abcdefghij12"]
 # Each kind of question, over the words above.
 QUESTIONS = [read_question(text) for text in (
     "@", "-@", "a", "b*", "-a", "--ab", '"a b"', "<2 a b*>", "a b", "a -b", "a | 7", "a | -b", "-(a | b)", "-(a -b) 0")]
+
+# The changes of a small index; its leaves are 3 places, and behind them the postings of four words.
+SMALL = [(5, "a", "mill old mills"), (9, "a", "old"), (3, "b", "mill weir")]
+SMALL_LEAVES = [
+    ("a", 5, 9), ("a", 9, None), ("b", 3, None),
+    ("mill", "a", 5, 9, (0,)), ("mill", "b", 3, None, (0,)), ("mills", "a", 5, 9, (2,)),
+    ("old", "a", 5, 9, (1,)), ("old", "a", 9, None, (0,)), ("weir", "b", 3, None, (1,))]
 
 
 def made_pattern(chance):
@@ -68,7 +76,12 @@ def made_changes(chance, many, keys=("a", "b", "10", "9"), last=12):
 
 
 def after_telling(holder, changes):
-    """The shelf, or the index, when it has been told these changes."""
+    """The shelf, the index or the copy, when it has been told these changes."""
     for time, key, text in changes:
         holder.tell(time, key, text)
     return holder
+
+
+def copy_of(source, changes, endings=()):
+    """A copy that was told these changes."""
+    return after_telling(Copy(source, endings), changes)

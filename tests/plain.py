@@ -2,6 +2,7 @@
 
 import itertools
 
+from timeshelf.questions import patterns_of
 from timeshelf.words import document_of
 
 
@@ -96,3 +97,139 @@ def postings_plainly(changes, endings):
                 places = tuple(at for at in range(len(document)) if document[at] == word)
                 found[(word, key, start)] = (word, key, start, end, places)
     return [found[place] for place in sorted(found)]
+
+
+def leaves_plainly(changes, endings):
+    """[m2]: the leaves in their order."""
+    return places_plainly(changes, endings) + postings_plainly(changes, endings)
+
+
+def sum_plainly(row, modulus):
+    """[m1]: the sum, by powers of 31."""
+    if not row:
+        # Nothing is taken modulo the modulus if there is no integer.
+        return 7
+    total = 7 * pow(31, len(row), modulus)
+    for at, number in enumerate(row):
+        total += (number + 1) * pow(31, len(row) - 1 - at, modulus)
+    return total % modulus
+
+
+def string_plainly(text):
+    return [len(text)] + [ord(character) for character in text]
+
+
+def row_plainly(leaf):
+    """[m2]: the row of a leaf."""
+    key, start, end = leaf[-4:-1] if len(leaf) == 5 else leaf
+    row = [1] if len(leaf) == 3 else [2] + string_plainly(leaf[0])
+    row += string_plainly(key) + [start] + ([0] if end is None else [1, end])
+    if len(leaf) == 5:
+        row += [len(leaf[4])] + list(leaf[4])
+    return tuple(row)
+
+
+def nodes_plainly(leaves, modulus):
+    """[m3]: for each (height, index) in the tree the sum, and the row that it is the sum of."""
+    rows = [row_plainly(leaf) for leaf in leaves]
+    nodes = {(0, at): (sum_plainly(row, modulus), row) for at, row in enumerate(rows)}
+    height, width = 0, len(rows)
+    while width > 1:
+        for at in range((width + 1) // 2):
+            left, right = nodes[height, 2 * at], nodes.get((height, 2 * at + 1))
+            if right is None:
+                nodes[height + 1, at] = left
+            else:
+                row = (3, left[0], right[0])
+                nodes[height + 1, at] = (sum_plainly(row, modulus), row)
+        height, width = height + 1, (width + 1) // 2
+    return nodes
+
+
+def tree_plainly(leaves, modulus):
+    """[m3]: the levels of sums."""
+    levels = []
+    for (height, _), (made, _) in sorted(nodes_plainly(leaves, modulus).items()):
+        levels += [[]] * (height == len(levels))
+        levels[height] = levels[height] + [made]
+    return levels
+
+
+def digest_plainly(leaves, modulus):
+    """[m3]: the digest."""
+    levels = tree_plainly(leaves, modulus)
+    return (modulus, len(leaves), levels[-1][0] if levels else 0)
+
+
+def sides_plainly(levels, first, last):
+    """[m4]: for each level, of the neighbours that are added into one sum with a known one, the unknown ones."""
+    sides = []
+    known = range(first, last + 1)
+    for level in levels[:-1]:
+        partners = [at ^ 1 for at in known if at ^ 1 not in known and at ^ 1 < len(level)]
+        left = [level[at] for at in partners if at < known[0]]
+        right = [level[at] for at in partners if at > known[-1]]
+        sides.append((left[0] if left else None, right[0] if right else None))
+        known = range(known[0] // 2, known[-1] // 2 + 1)
+    return tuple(sides)
+
+
+def entry_plainly(leaves, first, last, modulus):
+    """[m6]: the entry of the leaves from the first to the last of these indexes."""
+    return (first, tuple(leaves[first:last + 1]), sides_plainly(tree_plainly(leaves, modulus), first, last))
+
+
+def stretches_plainly(leaves, question):
+    """[m5]: the first and the last index of each stretch."""
+    places = [leaf for leaf in leaves if len(leaf) == 3]
+    last = len(leaves) - 1
+    stretches = []
+    if leaves and matches_plainly((), question):
+        stretches.append((0, min(len(places), last)))
+    for pattern in patterns_of(question) if leaves else []:
+        found = [at for at, leaf in enumerate(leaves) if len(leaf) == 5 and fits_plainly(leaf[0], pattern)]
+        # If there is none, the stretch is where it would be.
+        begin = len(places) + len([leaf for leaf in leaves if len(leaf) == 5 and leaf[0] < pattern[1]])
+        end = found[-1] + 1 if found else begin
+        stretches.append((max(begin - 1, 0), min(end, last)))
+    return stretches
+
+
+def paper_plainly(leaves, question, modulus):
+    """[m6]: the paper."""
+    return [entry_plainly(leaves, first, last, modulus) for first, last in stretches_plainly(leaves, question)]
+
+
+def number_plainly(n):
+    """[f4]: the bytes of an integer."""
+    digits = [n // 128 ** at % 128 for at in range(max(1, (n.bit_length() + 6) // 7))]
+    return [digit + 128 for digit in digits[:-1]] + digits[-1:]
+
+
+def text_plainly(text):
+    """[f4]: the bytes of a string."""
+    return number_plainly(len(text)) + [ord(character) for character in text]
+
+
+def record_plainly(body):
+    """[f5]: the bytes of a record."""
+    return number_plainly(len(body)) + body + number_plainly(sum_plainly(body, 65521))
+
+
+def endings_plainly(endings):
+    """[f6]: the bytes of endings."""
+    return number_plainly(len(endings)) + [byte for ending, least in endings for byte in text_plainly(ending) + [least]]
+
+
+def telling_plainly(telling):
+    """[f4]: the bytes of a telling."""
+    stamp, source, (time, key, text) = telling
+    head = [byte for number in (stamp, source, time) for byte in number_plainly(number)] + text_plainly(key)
+    return head + ([0] if text is None else [1] + text_plainly(text))
+
+
+def compacted_plainly(tellings):
+    """[f3]: those with no later telling of the same key and time."""
+    told = sorted(tellings, key=lambda telling: telling[:2])
+    return [telling for at, telling in enumerate(told)
+            if not [1 for later in told[at + 1:] if later[2][:2] == telling[2][:2]]]

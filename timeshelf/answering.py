@@ -10,9 +10,10 @@ def needs_all(question):
 
 
 def places_told(postings):
-    """The sorted list of the places of the versions that the postings are of."""
-    # No two have one key and one start: ends, which can be None, are not compared.
-    return sorted({posting[1:4] for posting in postings})
+    """The list of the places of the versions that the postings are of, each once, by key, then by start."""
+    places = list({posting[1:4]: True for posting in postings})
+    # Ends, which can be None, are not compared: a paper can tell two for one key and start.
+    return sorted(places, key=lambda place: place[:2])
 
 
 def answer_by(question, places, postings):
